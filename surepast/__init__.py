@@ -1,0 +1,1 @@
+"""Surepast: what of the past is sure, whatever comes."""

@@ -1,0 +1,104 @@
+"""The interface's names and arguments, and the rules of form that are simple to check."""
+
+import ast
+import importlib
+import inspect
+import pathlib
+import unittest
+
+PACKAGE = pathlib.Path(__file__).resolve().parent.parent / "surepast"
+
+FUNCTIONS = {
+    "models": {
+        "is_model": ["value"],
+        "is_signs": ["value", "model"],
+        "cost_of": ["model", "signs", "row"],
+        "steps": ["model", "signs", "row"],
+        "is_better": ["model", "signs", "row", "other"],
+    },
+    "made": {
+        "raised": ["model", "part", "number"],
+        "renamed": ["model", "order"],
+        "without": ["model", "state"],
+    },
+}
+CLASSES = {
+    "errors": {
+        "PastError": None,
+        "BadValue": ["name"],
+        "TooLarge": ["what"],
+        "NotPossible": ["why"],
+        "TextError": ["column", "words"],
+    },
+}
+# Not all that the rules allow, but all that the package needs by now.
+BUILTINS = {
+    "ValueError", "all", "enumerate", "isinstance", "int", "bool", "len", "list", "range", "sorted", "str", "sum", "tuple",
+}
+
+
+def files():
+    return sorted(path for path in PACKAGE.rglob("*") if path.is_file() and "__pycache__" not in path.parts)
+
+
+def trees():
+    return [(path, ast.parse(path.read_text(encoding="ascii"))) for path in files()]
+
+
+class Interface(unittest.TestCase):
+    def test_functions(self):
+        for file, functions in FUNCTIONS.items():
+            module = importlib.import_module(f"surepast.{file}")
+            for name, parameters in functions.items():
+                function = getattr(module, name)
+                self.assertTrue(inspect.isfunction(function))
+                self.assertEqual(function.__module__, f"surepast.{file}")
+                self.assertEqual(list(inspect.signature(function).parameters), parameters)
+
+    def test_classes(self):
+        for file, classes in CLASSES.items():
+            module = importlib.import_module(f"surepast.{file}")
+            for name, parameters in classes.items():
+                its = getattr(module, name)
+                self.assertTrue(inspect.isclass(its))
+                self.assertEqual(its.__module__, f"surepast.{file}")
+                if parameters is not None:
+                    self.assertEqual(list(inspect.signature(its).parameters), parameters)
+
+
+class Form(unittest.TestCase):
+    def test_the_package_holds_python_files_alone(self):
+        self.assertTrue((PACKAGE / "__init__.py").is_file())
+        for path in files():
+            self.assertEqual(path.suffix, ".py", path)
+
+    def test_sizes_and_characters(self):
+        for path in files():
+            text = path.read_text(encoding="ascii")
+            self.assertLessEqual(len(text.splitlines()), 399, path)
+            self.assertLessEqual(max(map(len, text.splitlines())), 120, path)
+            self.assertTrue(all(letter == "\n" or " " <= letter <= "~" for letter in text), path)
+
+    def test_functions_are_short(self):
+        for path, tree in trees():
+            for node in ast.walk(tree):
+                if isinstance(node, ast.FunctionDef):
+                    self.assertLessEqual(node.end_lineno - node.lineno + 1, 40, (path, node.name))
+
+    def test_only_the_package_is_imported(self):
+        for path, tree in trees():
+            for node in ast.walk(tree):
+                self.assertNotIsInstance(node, ast.Import, path)
+                if isinstance(node, ast.ImportFrom):
+                    self.assertEqual((node.level, node.module.split(".")[0]), (0, "surepast"), path)
+
+    def test_no_builtin_that_is_not_allowed(self):
+        known = set(dir(__builtins__)) if not isinstance(__builtins__, dict) else set(__builtins__)
+        for path, tree in trees():
+            for node in ast.walk(tree):
+                if isinstance(node, ast.Name) and node.id in known:
+                    self.assertIn(node.id, BUILTINS, (path, node.lineno))
+
+
+if __name__ == "__main__":
+    unittest.main()
