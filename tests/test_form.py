@@ -1,6 +1,7 @@
 """The interface's names and arguments, and the rules of form that are simple to check."""
 
 import ast
+import builtins
 import importlib
 import inspect
 import pathlib
@@ -8,7 +9,14 @@ import unittest
 
 PACKAGE = pathlib.Path(__file__).resolve().parent.parent / "surepast"
 
-FUNCTIONS = {
+INTERFACE = {
+    "errors": {
+        "PastError": None,
+        "BadValue": ["name"],
+        "TooLarge": ["what"],
+        "NotPossible": ["why"],
+        "TextError": ["column", "words"],
+    },
     "models": {
         "is_model": ["value"],
         "is_signs": ["value", "model"],
@@ -22,19 +30,11 @@ FUNCTIONS = {
         "without": ["model", "state"],
     },
 }
-CLASSES = {
-    "errors": {
-        "PastError": None,
-        "BadValue": ["name"],
-        "TooLarge": ["what"],
-        "NotPossible": ["why"],
-        "TextError": ["column", "words"],
-    },
-}
-# Not all that the rules allow, but all that the package needs by now.
-BUILTINS = {
-    "ValueError", "all", "enumerate", "isinstance", "int", "bool", "len", "list", "range", "sorted", "str", "sum", "tuple",
-}
+ALLOWED_SOURCES = {"surepast", "heapq", "math", "itertools", "collections"}
+ALLOWED_BUILTINS = set("""
+    len range enumerate zip min max sum abs sorted reversed int str bool list tuple dict set isinstance ord repr any all
+    divmod iter next ValueError KeyError IndexError LookupError NotImplemented
+""".split())
 
 
 def files():
@@ -46,21 +46,12 @@ def trees():
 
 
 class Interface(unittest.TestCase):
-    def test_functions(self):
-        for file, functions in FUNCTIONS.items():
+    def test_names_and_arguments(self):
+        for file, listed in INTERFACE.items():
             module = importlib.import_module(f"surepast.{file}")
-            for name, parameters in functions.items():
-                function = getattr(module, name)
-                self.assertTrue(inspect.isfunction(function))
-                self.assertEqual(function.__module__, f"surepast.{file}")
-                self.assertEqual(list(inspect.signature(function).parameters), parameters)
-
-    def test_classes(self):
-        for file, classes in CLASSES.items():
-            module = importlib.import_module(f"surepast.{file}")
-            for name, parameters in classes.items():
+            for name, parameters in listed.items():
                 its = getattr(module, name)
-                self.assertTrue(inspect.isclass(its))
+                self.assertTrue(inspect.isclass(its) if file == "errors" else inspect.isfunction(its))
                 self.assertEqual(its.__module__, f"surepast.{file}")
                 if parameters is not None:
                     self.assertEqual(list(inspect.signature(its).parameters), parameters)
@@ -85,19 +76,20 @@ class Form(unittest.TestCase):
                 if isinstance(node, ast.FunctionDef):
                     self.assertLessEqual(node.end_lineno - node.lineno + 1, 40, (path, node.name))
 
-    def test_only_the_package_is_imported(self):
+    def test_no_clock_no_random_source_and_no_files_are_imported(self):
         for path, tree in trees():
             for node in ast.walk(tree):
                 self.assertNotIsInstance(node, ast.Import, path)
                 if isinstance(node, ast.ImportFrom):
-                    self.assertEqual((node.level, node.module.split(".")[0]), (0, "surepast"), path)
+                    self.assertEqual(node.level, 0, path)
+                    self.assertIn(node.module.split(".")[0], ALLOWED_SOURCES, (path, node.lineno))
 
     def test_no_builtin_that_is_not_allowed(self):
-        known = set(dir(__builtins__)) if not isinstance(__builtins__, dict) else set(__builtins__)
+        known = set(dir(builtins))
         for path, tree in trees():
             for node in ast.walk(tree):
                 if isinstance(node, ast.Name) and node.id in known:
-                    self.assertIn(node.id, BUILTINS, (path, node.lineno))
+                    self.assertIn(node.id, ALLOWED_BUILTINS, (path, node.lineno))
 
 
 if __name__ == "__main__":
