@@ -8,10 +8,15 @@ MOST_KINDS = 3
 MOST_SIGNS = 20
 
 
+def is_whole(value):
+    """Tell whether the value is an integer."""
+    # For Python, True and False are integers; for this program they are not.
+    return isinstance(value, int) and not isinstance(value, bool)
+
+
 def is_number(value, low, high):
     """Tell whether the value is an integer from low to high."""
-    # For Python, True and False are integers; for this program they are not.
-    return isinstance(value, int) and not isinstance(value, bool) and low <= value <= high
+    return is_whole(value) and low <= value <= high
 
 
 def are_numbers(values, low, high):
@@ -50,9 +55,19 @@ def is_state(value, model):
     return is_number(value, 0, len(model[0]) - 1)
 
 
+def is_sign(value, model):
+    """Tell whether the value is a sign of the model."""
+    return is_number(value, 0, len(model[2][0]) - 1)
+
+
+def are_signs(value, model, least, most):
+    """Tell whether the value is a tuple of at least and at most so many signs of the model."""
+    return is_tuple(value, least, most) and are_numbers(value, 0, len(model[2][0]) - 1)
+
+
 def is_signs(value, model):
     """Tell whether the value is signs for the model."""
-    return is_tuple(value, 0, MOST_SIGNS) and are_numbers(value, 0, len(model[2][0]) - 1)
+    return are_signs(value, model, 0, MOST_SIGNS)
 
 
 def is_row(value, model, signs):
@@ -80,14 +95,16 @@ def check_row(model, signs, row):
         raise BadValue("row")
 
 
+def coming(model, row, time, state):
+    """Return the cost with which the state is come to at the time, behind what the row has before it."""
+    begin, change = model[0], model[1]
+    return begin[state] if time == 0 else change[row[time - 1]][state]
+
+
 def steps_of(model, signs, row):
     """Return what `steps` does, for arguments that were checked."""
-    begin, change, show = model
-    found = []
-    for time, state in enumerate(row):
-        come = begin[state] if time == 0 else change[row[time - 1]][state]
-        found.append((come, show[state][signs[time]]))
-    return tuple(found)
+    show = model[2]
+    return tuple([(coming(model, row, time, state), show[state][signs[time]]) for time, state in enumerate(row)])
 
 
 def sum_of_steps(model, signs, row):

@@ -2,43 +2,30 @@
 
 import copy
 import unittest
-from itertools import product
 
 from surepast.errors import BadValue, NotPossible, PastError, TextError, TooLarge
 from surepast.made import raised, renamed, without
 from surepast.models import cost_of, is_better, steps
 from tests.samples import ALONE, DEAR, LEAST, STRANGE, THREE, TOLD
+from tests.wrongs import MODEL, ROWS, SIGNS, STATES, WrongArguments
 
 BELOW = (BadValue, TooLarge, NotPossible, TextError)
 
-MODELS = STRANGE + [
-    0, (), TOLD[:2], TOLD + (0,), list(TOLD), (list(TOLD[0]), TOLD[1], TOLD[2]), ((0, 4), TOLD[1], TOLD[2]),
-    ((0, -1), TOLD[1], TOLD[2]), ((0, True), TOLD[1], TOLD[2]), ((), (), ()), ((0,) * 4, ((0,) * 4,) * 4, ((0,),) * 4),
-    (TOLD[0], TOLD[1], ((), ())), (TOLD[0], TOLD[1], ((0,) * 4,) * 2), (TOLD[0], TOLD[1], ((0, 1), (0,))),
-    (TOLD[0], [*TOLD[1]], TOLD[2]), (TOLD[0], ((0, 1), [1, 0]), TOLD[2]), (TOLD[0], TOLD[1], ("01", (1, 0))),
-]
-SIGNS = STRANGE + [0, 2, "01", [0, 1], (2,), (-1,), (True,), (0, False), (0, None), ((0,),), (0,) * 21, (0, 1.0)]
-# Right signs beside these are 0, 1 and the model has two states.
-ROWS = STRANGE + [
-    0, (), (0,), (1,), (0, 0, 0), "01", [0, 1], (0, 2), (2, 0), (-1, 0), (0, -1), (True, False), (0, True), (False, 0),
-    (0, None), (0, "1"), ((0,), (1,)), (0, 1.0), (0, 1, 0, 1), (0,) * 20,
-]
 PARTS = STRANGE + [0, 1, 2, "Begin", "BEGIN", "begin ", " show", "changes", "sho", "signs", ("begin",), ["show"], b"show"]
 NUMBERS = STRANGE + [-4, 4, 5, -100, 10 ** 30, "1", (1,), 0.0, 2.5]
-# The model has two states, as above.
+# The model has two states.
 ORDERS = STRANGE + [
     0, 1, (), (0,), (1,), (0, 0), (1, 1), (0, 2), (1, 2), (-1, 0), (0, -1), (0, 1, 2), (0, 1, 1), (0, 1, 0), [0, 1], "01",
     (False, True), (0, True), (False, 1), (True, 0), (None, 0), ("0", "1"), (0.0, 1.0), ((0,), (1,)), {0: 0, 1: 1},
 ]
-STATES = STRANGE + [-1, 2, 3, 100, "0", (0,), 0.0, -(10 ** 30)]
 
 CALLS = [
-    (cost_of, [("model", TOLD, MODELS), ("signs", (0, 1), SIGNS), ("row", (0, 1), ROWS)]),
-    (steps, [("model", TOLD, MODELS), ("signs", (0, 1), SIGNS), ("row", (0, 1), ROWS)]),
-    (is_better, [("model", TOLD, MODELS), ("signs", (0, 1), SIGNS), ("row", (0, 1), ROWS), ("other", (1, 1), ROWS)]),
-    (raised, [("model", TOLD, MODELS), ("part", "begin", PARTS), ("number", 1, NUMBERS)]),
-    (renamed, [("model", TOLD, MODELS), ("order", (1, 0), ORDERS)]),
-    (without, [("model", TOLD, MODELS), ("state", 1, STATES)]),
+    (cost_of, [MODEL, ("signs", (0, 1), SIGNS), ("row", (0, 1), ROWS)]),
+    (steps, [MODEL, ("signs", (0, 1), SIGNS), ("row", (0, 1), ROWS)]),
+    (is_better, [MODEL, ("signs", (0, 1), SIGNS), ("row", (0, 1), ROWS), ("other", (1, 1), ROWS)]),
+    (raised, [MODEL, ("part", "begin", PARTS), ("number", 1, NUMBERS)]),
+    (renamed, [MODEL, ("order", (1, 0), ORDERS)]),
+    (without, [MODEL, ("state", 1, STATES)]),
 ]
 
 
@@ -72,34 +59,8 @@ class Classes(unittest.TestCase):
                 raise error
 
 
-class WrongArguments(unittest.TestCase):
-    def name_of_error(self, call, arguments):
-        with self.assertRaises(PastError) as caught:
-            call(*arguments)
-        self.assertIs(type(caught.exception), BadValue, arguments)
-        return caught.exception.name
-
-    def test_each_argument_alone(self):
-        for call, parameters in CALLS:
-            for at, (name, _, wrongs) in enumerate(parameters):
-                for wrong in wrongs:
-                    arguments = [right for _, right, _ in parameters]
-                    arguments[at] = wrong
-                    self.assertEqual(self.name_of_error(call, arguments), name, arguments)
-
-    def test_the_first_wrong_one_whatever_stands_behind_it(self):
-        for call, parameters in CALLS:
-            for at, (name, _, wrongs) in enumerate(parameters):
-                before = [right for _, right, _ in parameters[:at]]
-                behind = [[right] + others[:2] + others[-3:] for _, right, others in parameters[at + 1:]]
-                for wrong in wrongs:
-                    for rest in product(*behind):
-                        arguments = (*before, wrong, *rest)
-                        self.assertEqual(self.name_of_error(call, arguments), name, arguments)
-
-    def test_the_right_ones_raise_nothing(self):
-        for call, parameters in CALLS:
-            call(*[right for _, right, _ in parameters])
+class WrongOnes(WrongArguments, unittest.TestCase):
+    calls = CALLS
 
     def test_rows_are_for_the_signs_and_states_of_this_model(self):
         for call in (cost_of, steps):

@@ -1,10 +1,13 @@
-"""The interface's examples as they stand, and point 18."""
+"""The interface's examples as they stand, and points 18, 29, 40 and 52."""
 
 import doctest
 import unittest
 
+from surepast.best import best_row
+from surepast.futures import profile
 from surepast.models import cost_of, is_better, is_model, steps
-from tests.samples import TOLD
+from surepast.sure import sure_states
+from tests.samples import TOLD, TURNS
 
 MADE = """
 >>> from surepast.made import raised, renamed, without
@@ -21,6 +24,47 @@ MADE = """
 """
 
 
+BEST = """
+>>> from surepast.best import accepts_best, best_row, ending_row, told_floors
+>>> model = ((0, 0), ((0, 1), (1, 0)), ((0, 1), (1, 0)))
+>>> best_row(model, (1, 0)), best_row(model, (1,)), best_row(model, ())
+(((0, 0), 1), ((1,), 0), ((), 0))
+>>> ending_row(model, (1, 0), 1), told_floors(model, (1, 0))
+(((1, 1), 1), ((0, 1), (0, 0)))
+>>> accepts_best(model, (1, 0), (0, 0), ((0, 1), (0, 0))), accepts_best(model, (1, 0), (1, 1), ((0, 1), (0, 0)))
+(True, False)
+>>> accepts_best(model, (1, 1), (1, 1), ((0, 0), (0, 0))), accepts_best(model, (1, 1), (1, 1), ((1, 0), (0, -1)))
+(True, False)
+"""
+
+FUTURES = """
+>>> from surepast.futures import first_signs, is_closed, profile, profiles, spread, with_ahead
+>>> model = ((0, 0), ((0, 1), (1, 0)), ((0, 1), (1, 0)))
+>>> profile(model, ()), profile(model, (0,)), profile(model, (0, 1)), with_ahead(model, 1, (0, 1))
+((0, 0), (0, 1), (0, 0), (0, 0))
+>>> profiles(model), first_signs(model), spread(model)
+(((0, 0), (0, 1), (1, 0)), [((0, 0), ()), ((0, 1), (0,)), ((1, 0), (1,))], 1)
+>>> is_closed(model, profiles(model)), is_closed(model, ((0, 0), (0, 1))), is_closed(model, ((0, 0), (0, 1), (0, 5), (1, 0)))
+(True, False, True)
+"""
+
+SURE = """
+>>> from surepast.waiting import accepts_open, open_time, told_signs
+>>> from surepast.sure import accepts_sure, decided_by, sure_states, survivors
+>>> model = ((0, 0), ((0, 1), (1, 0)), ((0, 1), (1, 0)))
+>>> sure_states(model, (1,)), survivors(model, (1,)), sure_states(model, (1, 1)), survivors(model, (1, 1))
+((), [(0, (0,)), (1, ())], (1, 1), [(1, ())])
+>>> open_time(model, (1,)), told_signs(model, (1,)), open_time(model, (1, 1)), told_signs(model, (1, 1))
+(0, ((0,), ()), None, None)
+>>> accepts_open(model, (1,), 0, ((0,), ())), accepts_open(model, (1,), 0, ((1,), ()))
+(True, False)
+>>> decided_by(model, (1, 1), ((0, 0), (0, 1), (0, 3), (1, 0))), accepts_sure(model, (1, 1), 2, ((0, 0), (0, 1), (1, 0)))
+((), True)
+>>> accepts_sure(model, (1, 1), 1, ((0, 0), (0, 1), (0, 3), (1, 0))), accepts_sure(model, (1, 1), 2, ((0, 0), (0, 1)))
+(False, False)
+"""
+
+
 class Examples(unittest.TestCase):
     def run_text(self, text, many):
         example = doctest.DocTestParser().get_doctest(text, {}, "interface", None, 0)
@@ -31,6 +75,15 @@ class Examples(unittest.TestCase):
     def test_made(self):
         self.run_text(MADE, 7)
 
+    def test_best(self):
+        self.run_text(BEST, 6)
+
+    def test_futures(self):
+        self.run_text(FUTURES, 5)
+
+    def test_sure(self):
+        self.run_text(SURE, 8)
+
     def test_point_18(self):
         begin = (0, 2)
         change = ((0, 1), (1, 0))
@@ -40,6 +93,22 @@ class Examples(unittest.TestCase):
         self.assertEqual(cost_of(TOLD, (0, 1, 1), (0, 1, 1)), 1)
         self.assertEqual(steps(TOLD, (0, 1, 1), (0, 1, 1)), ((0, 0), (1, 0), (0, 0)))
         self.assertIs(is_better(TOLD, (0, 1, 1), (0, 1, 1), (0, 0, 1)), True)
+
+    def test_point_29(self):
+        self.assertEqual([cost_of(TURNS, (1, 0), row) for row in ((0, 0), (1, 1))], [1, 1])
+        self.assertEqual(best_row(TURNS, (1, 0))[0], (0, 0))
+
+    def test_point_40(self):
+        begin = (0, 0)
+        change = ((0, 1), (1, 0))
+        show = ((0, 1), (1, 0))
+        self.assertEqual(TURNS, (begin, change, show))
+        self.assertEqual(profile(TURNS, (0,)), (0, 1))
+
+    def test_point_52(self):
+        self.assertEqual(sure_states(TURNS, (1,)), ())
+        self.assertEqual(best_row(TURNS, (1, 0))[0][0], 0)
+        self.assertEqual(sure_states(TURNS, (1, 1)), (1, 1))
 
 
 if __name__ == "__main__":

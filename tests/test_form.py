@@ -29,6 +29,31 @@ INTERFACE = {
         "renamed": ["model", "order"],
         "without": ["model", "state"],
     },
+    "best": {
+        "best_row": ["model", "signs"],
+        "ending_row": ["model", "signs", "state"],
+        "told_floors": ["model", "signs"],
+        "accepts_best": ["model", "signs", "row", "value"],
+    },
+    "futures": {
+        "profile": ["model", "signs"],
+        "with_ahead": ["model", "sign", "numbers"],
+        "profiles": ["model"],
+        "first_signs": ["model"],
+        "is_closed": ["model", "value"],
+        "spread": ["model"],
+    },
+    "sure": {
+        "decided_by": ["model", "signs", "table"],
+        "sure_states": ["model", "signs"],
+        "survivors": ["model", "signs"],
+        "accepts_sure": ["model", "signs", "many", "value"],
+    },
+    "waiting": {
+        "open_time": ["model", "signs"],
+        "told_signs": ["model", "signs"],
+        "accepts_open": ["model", "signs", "time", "value"],
+    },
 }
 ALLOWED_SOURCES = {"surepast", "heapq", "math", "itertools", "collections"}
 ALLOWED_BUILTINS = set("""

@@ -3,10 +3,14 @@
 import copy
 import unittest
 
+from surepast.best import accepts_best, best_row, ending_row, told_floors
 from surepast.errors import PastError
+from surepast.futures import first_signs, is_closed, profile, profiles, spread, with_ahead
 from surepast.made import raised, renamed, without
 from surepast.models import cost_of, is_better, is_model, is_signs, steps
-from tests.samples import ALONE, DEAR, THREE, TOLD
+from surepast.sure import accepts_sure, decided_by, sure_states, survivors
+from surepast.waiting import accepts_open, open_time, told_signs
+from tests.samples import ALONE, DEAR, THREE, TOLD, TURNS
 
 CALLS = [
     (is_model, (TOLD,)), (is_model, ([[0], [[0]], [[0]]],)), (is_model, (([0], [[0]], [[0]]),)), (is_model, ({"a": [1]},)),
@@ -19,6 +23,20 @@ CALLS = [
     (raised, (TOLD, "change", 2)), (raised, (DEAR, "show", 1)), (raised, (TOLD, ["show"], 1)), (raised, (TOLD, "show", [1])),
     (renamed, (THREE, (2, 0, 1))), (renamed, (THREE, [2, 0, 1])), (renamed, ([], [2, 0, 1])),
     (without, (THREE, 1)), (without, (ALONE, 0)), (without, (THREE, [1])),
+    (best_row, (THREE, (0, 2, 1))), (best_row, (TOLD, [0, 1])), (ending_row, (THREE, (0, 2, 1), 2)),
+    (ending_row, (TOLD, (0,), [0])), (told_floors, (THREE, (0, 2, 1))), (told_floors, ([], [])),
+    (accepts_best, (TURNS, (1, 0), (0, 0), ((0, 1), (0, 0)))), (accepts_best, (TURNS, (1, 0), (0, 0), [[0, 1], [0, 0]])),
+    (accepts_best, (TURNS, (1, 0), (0, 0), ([0, 1], [0, 0]))), (accepts_best, (TURNS, (1, 0), [0, 0], {0: [1]})),
+    (profile, (THREE, (2, 1, 0))), (profile, (THREE, [2, 1, 0])), (with_ahead, (THREE, 1, (5, -7, 0))),
+    (with_ahead, (THREE, 1, [5, -7, 0])), (profiles, (THREE,)), (profiles, ([THREE],)), (first_signs, (THREE,)),
+    (first_signs, ([],)), (spread, (THREE,)), (is_closed, (TURNS, ((0, 0), (0, 1), (1, 0)))),
+    (is_closed, (TURNS, [(1, 0), (0, 1), (0, 0)])), (is_closed, (TURNS, ([1, 0], [0, 1], [0, 0]))),
+    (decided_by, (TURNS, (1, 1), ((0, 0), (0, 1), (0, 3), (1, 0)))), (decided_by, (TURNS, (1, 1), [(1, 0), (0, 0)])),
+    (sure_states, (THREE, (0, 2, 1))), (sure_states, (THREE, [0, 2, 1])), (survivors, (THREE, (1, 0, 0))),
+    (survivors, (TURNS, ())), (survivors, (TURNS, [])), (accepts_sure, (TURNS, (1, 1), 2, ((0, 0), (0, 1), (1, 0)))),
+    (accepts_sure, (TURNS, (1, 1), 2, [(1, 0), (0, 1), (0, 0)])), (open_time, (TURNS, (1,))), (open_time, (TURNS, [1])),
+    (told_signs, (TURNS, (1,))), (told_signs, (TURNS, [1, 1])), (accepts_open, (TURNS, (1,), 0, ((0,), ()))),
+    (accepts_open, (TURNS, (1,), 0, ([0], []))), (accepts_open, (TURNS, (1,), 0, [(0,), ()])),
 ]
 
 
@@ -43,6 +61,20 @@ class TheSame(unittest.TestCase):
         backwards = [outcome(call, copy.deepcopy(arguments)) for call, arguments in reversed(CALLS)]
         self.assertEqual(again, first)
         self.assertEqual(backwards[::-1], first)
+
+    def test_a_returned_list_that_is_changed_changes_no_later_call(self):
+        lists = 0
+        for call, arguments in CALLS:
+            told = outcome(call, arguments)[1]
+            if isinstance(told, list):
+                kept = copy.deepcopy(told)
+                told.append("more")
+                told.reverse()
+                self.assertEqual(call(*arguments), kept)
+                call(*arguments).clear()
+                self.assertEqual(call(*arguments), kept)
+                lists += 1
+        self.assertGreaterEqual(lists, 3)
 
 
 if __name__ == "__main__":
