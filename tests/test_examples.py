@@ -1,9 +1,12 @@
-"""The interface's examples as they stand, and points 18, 29, 40 and 52."""
+"""The interface's examples as they stand, and points 18, 29, 40, 52, 63, 73 and 82."""
 
 import doctest
 import unittest
 
 from surepast.best import best_row
+from surepast.conditions import condition
+from surepast.counting import index_open
+from surepast.delays import accepts_delay, delay
 from surepast.futures import profile
 from surepast.models import cost_of, is_better, is_model, steps
 from surepast.sure import sure_states
@@ -64,6 +67,39 @@ SURE = """
 (False, False)
 """
 
+DELAYS = """
+>>> from surepast.delays import accepts_delay, delay, delay_evidence, undecided
+>>> turns = ((0, 0), ((0, 1), (1, 0)), ((0, 1), (1, 0)))
+>>> later = ((0, 0), ((0, 0), (1, 1)), ((1,), (0,)))
+>>> delay(turns), delay(later), undecided(later, 0), undecided(later, 1), undecided(turns, 3)
+(None, 1, ((0,), ()), None, ((1,), (0, 1, 0)))
+>>> delay_evidence(later)
+('within', 1, (((1, 0), (0, 1)),), ((((1, 0), (0, 1), (0, 1)), 1),))
+>>> accepts_delay(turns, ("never", (1,), (), (0, 1))), accepts_delay(turns, ("never", (1,), (0,), (0, 1))), accepts_delay(later, ("never", (0,), (), (0,)))
+(True, False, False)
+"""
+
+CONDITIONS = """
+>>> from surepast.conditions import all_conditions, can_win, condition, is_closed_set, origins, with_sign
+>>> turns = ((0, 0), ((0, 1), (1, 0)), ((0, 1), (1, 0)))
+>>> condition(turns, (1,)), origins(turns, ((1, 0), (0, 1)), 0), with_sign(turns, ((1, 0), (0, 1)), 0)
+(((1, 0), (0, 1)), (0, 1), ((0, 0), (0, 1)))
+>>> can_win(turns, ((1, 0), (0, 1))), can_win(turns, ((0, 1), (0, 1))), can_win(turns, ((0, 0), (0, 1)))
+((0, 1), (0,), (0, 1))
+>>> later = ((0, 0), ((0, 0), (1, 1)), ((1,), (0,)))
+>>> all_conditions(later), is_closed_set(later, (((1, 0), (0, 1)),)), is_closed_set(turns, (((1, 0), (0, 1)),))
+([(((1, 0), (0, 1)), (0,))], True, False)
+"""
+
+COUNTING = """
+>>> from surepast.counting import count_open, index_open, nth_open, worst_signs
+>>> turns = ((0, 0), ((0, 1), (1, 0)), ((0, 1), (1, 0)))
+>>> count_open(turns, 0), count_open(turns, 1), count_open(turns, 2)
+((1,), (1, 1), (2, 1, 1))
+>>> nth_open(turns, 2, 0, 1), index_open(turns, (1, 0)), worst_signs(turns, 2), index_open(turns, (1, 1))
+((1, 1), (2, 0), (1, 0), (0, 1))
+"""
+
 
 class Examples(unittest.TestCase):
     def run_text(self, text, many):
@@ -83,6 +119,15 @@ class Examples(unittest.TestCase):
 
     def test_sure(self):
         self.run_text(SURE, 8)
+
+    def test_delays(self):
+        self.run_text(DELAYS, 6)
+
+    def test_conditions(self):
+        self.run_text(CONDITIONS, 6)
+
+    def test_counting(self):
+        self.run_text(COUNTING, 4)
 
     def test_point_18(self):
         begin = (0, 2)
@@ -109,6 +154,21 @@ class Examples(unittest.TestCase):
         self.assertEqual(sure_states(TURNS, (1,)), ())
         self.assertEqual(best_row(TURNS, (1, 0))[0][0], 0)
         self.assertEqual(sure_states(TURNS, (1, 1)), (1, 1))
+
+    def test_point_63(self):
+        self.assertIsNone(delay(TURNS))
+        for many in range(21):
+            self.assertEqual(sure_states(TURNS, ((1,) + (0, 1) * 10)[:many]), ())
+        self.assertIs(accepts_delay(TURNS, ("never", (1,), (), (0, 1))), True)
+
+    def test_point_73(self):
+        (costs, order) = condition(TURNS, (1,))
+        self.assertEqual(costs[0], costs[1] + 1)
+        self.assertLess(order.index(0), order.index(1))
+
+    def test_point_82(self):
+        left = {(0, 0): 0, (1, 1): 0, (0, 1): 1, (1, 0): 2}
+        self.assertEqual({signs: index_open(TURNS, signs)[0] for signs in left}, left)
 
 
 if __name__ == "__main__":

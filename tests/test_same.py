@@ -4,13 +4,16 @@ import copy
 import unittest
 
 from surepast.best import accepts_best, best_row, ending_row, told_floors
+from surepast.conditions import all_conditions, can_win, condition, is_closed_set, origins, with_sign
+from surepast.counting import count_open, index_open, nth_open, worst_signs
+from surepast.delays import accepts_delay, delay, delay_evidence, undecided
 from surepast.errors import PastError
 from surepast.futures import first_signs, is_closed, profile, profiles, spread, with_ahead
 from surepast.made import raised, renamed, without
 from surepast.models import cost_of, is_better, is_model, is_signs, steps
 from surepast.sure import accepts_sure, decided_by, sure_states, survivors
 from surepast.waiting import accepts_open, open_time, told_signs
-from tests.samples import ALONE, DEAR, THREE, TOLD, TURNS
+from tests.samples import ALONE, DEAR, DELAYED, LATER, THREE, TOLD, TOO_FULL, TURNS
 
 CALLS = [
     (is_model, (TOLD,)), (is_model, ([[0], [[0]], [[0]]],)), (is_model, (([0], [[0]], [[0]]),)), (is_model, ({"a": [1]},)),
@@ -37,6 +40,21 @@ CALLS = [
     (accepts_sure, (TURNS, (1, 1), 2, [(1, 0), (0, 1), (0, 0)])), (open_time, (TURNS, (1,))), (open_time, (TURNS, [1])),
     (told_signs, (TURNS, (1,))), (told_signs, (TURNS, [1, 1])), (accepts_open, (TURNS, (1,), 0, ((0,), ()))),
     (accepts_open, (TURNS, (1,), 0, ([0], []))), (accepts_open, (TURNS, (1,), 0, [(0,), ()])),
+    (condition, (THREE, (0, 2, 1) * 60)), (condition, (THREE, [0, 2, 1])), (all_conditions, (THREE,)), (all_conditions, (7,)),
+    (origins, (THREE, ((0, 5, 9), (2, 1, 0)), 1)), (origins, (THREE, ([0, 5, 9], [2, 1, 0]), 1)),
+    (with_sign, (THREE, ((0, 5, 9), (2, 1, 0)), 1)), (with_sign, (THREE, [[0, 5, 9], [2, 1, 0]], 1)),
+    (can_win, (THREE, ((0, 1, 2), (2, 1, 0)))), (can_win, (THREE, ([0], [1]))),
+    (is_closed_set, (LATER, (((1, 0), (0, 1)),))), (is_closed_set, (LATER, [((1, 0), (0, 1))])),
+    (is_closed_set, (LATER, (([1, 0], [1, 0]),))), (is_closed_set, (LATER, {1: [2]})),
+    (delay, (TURNS,)), (delay, (DELAYED[3],)), (delay, (TOO_FULL[0],)), (delay, ([1],)), (undecided, (DELAYED[3], 4)),
+    (undecided, (DELAYED[3], 5)), (undecided, (TOO_FULL[0], 5)), (undecided, (TURNS, [1])),
+    (delay_evidence, (TURNS,)), (delay_evidence, (DELAYED[3],)), (delay_evidence, (TOO_FULL[0],)),
+    (accepts_delay, (TURNS, ("never", (1,), (), (0, 1)))), (accepts_delay, (TURNS, ["never", (1,), (), (0, 1)])),
+    (accepts_delay, (TURNS, ("never", [1], [], [1, 0]))), (accepts_delay, (DELAYED[3], delay_evidence(DELAYED[3]))),
+    (accepts_delay, (LATER, ("within", 1, [((1, 0), (0, 1))], [[[2], 1], [[1], 1]]))),
+    (accepts_delay, (LATER, ("within", 1, (((1, 0), (0, 1)),), ((([1, 0], [1, 0], [1, 0]), 1),)))),
+    (count_open, (THREE, 9)), (count_open, (THREE, [9])), (nth_open, (THREE, 9, 2, 30)), (nth_open, (THREE, 9, 2, [30])),
+    (index_open, (THREE, (2, 1, 0))), (index_open, (THREE, [2, 1, 0])), (worst_signs, (THREE, 9)), (worst_signs, ({}, 9)),
 ]
 
 
@@ -74,7 +92,7 @@ class TheSame(unittest.TestCase):
                 call(*arguments).clear()
                 self.assertEqual(call(*arguments), kept)
                 lists += 1
-        self.assertGreaterEqual(lists, 3)
+        self.assertGreaterEqual(lists, 4)
 
 
 if __name__ == "__main__":
