@@ -38,6 +38,16 @@ def to_go(model, sign, numbers):
     return tuple([min([cost + more for cost, more in zip(costs, rest)]) for costs in change])
 
 
+def floors_of(model, signs):
+    """Return what `told_floors` does, for arguments that were checked."""
+    numbers = (0,) * len(model[0])
+    floors = []
+    for sign in reversed(signs):
+        floors.append(numbers)
+        numbers = to_go(model, sign, numbers)
+    return tuple(reversed(floors))
+
+
 def are_floors(value, model, signs):
     """Tell whether the value has the form of floors for the signs."""
     if not is_tuple(value, len(signs), len(signs)):
@@ -90,12 +100,7 @@ def ending_row(model, signs, state):
 def told_floors(model, signs):
     """Return the costs to go of each state, behind each of the signs."""
     check_signs(model, signs)
-    numbers = (0,) * len(model[0])
-    floors = []
-    for sign in reversed(signs):
-        floors.append(numbers)
-        numbers = to_go(model, sign, numbers)
-    return tuple(reversed(floors))
+    return floors_of(model, signs)
 
 
 def accepts_best(model, signs, row, value):

@@ -70,9 +70,14 @@ def is_signs(value, model):
     return are_signs(value, model, 0, MOST_SIGNS)
 
 
+def are_states(value, model, least, most):
+    """Tell whether the value is a tuple of at least and at most so many states of the model."""
+    return is_tuple(value, least, most) and are_numbers(value, 0, len(model[0]) - 1)
+
+
 def is_row(value, model, signs):
     """Tell whether the value is a row for the signs of the model."""
-    return is_tuple(value, len(signs), len(signs)) and are_numbers(value, 0, len(model[0]) - 1)
+    return are_states(value, model, len(signs), len(signs))
 
 
 def check_model(model):
