@@ -1,15 +1,22 @@
-"""The interface's examples as they stand, and points 18, 29, 40, 52, 63, 73 and 82."""
+"""The examples of the interface and of README.md as they stand, and points 18, 29, 40, 52, 63, 73, 82, 92, 102, 113 and 124."""
 
 import doctest
+import pathlib
 import unittest
 
 from surepast.best import best_row
+from surepast.changing import best_changed
 from surepast.conditions import condition
 from surepast.counting import index_open
 from surepast.delays import accepts_delay, delay
+from surepast.errors import TextError
 from surepast.futures import profile
 from surepast.models import cost_of, is_better, is_model, steps
+from surepast.near import count_near, nth_near
+from surepast.reading import read_model
 from surepast.sure import sure_states
+from surepast.watcher import Watcher
+from surepast.writing import model_text
 from tests.samples import TOLD, TURNS
 
 MADE = """
@@ -100,6 +107,67 @@ COUNTING = """
 ((1, 1), (2, 0), (1, 0), (0, 1))
 """
 
+NEAR = """
+>>> from surepast.met import accepts_met, agreed, met, met_evidence
+>>> from surepast.near import count_near, index_of_near, nth_near, second_best
+>>> model = ((0, 2), ((0, 1), (1, 0)), ((0, 2), (2, 0)))
+>>> [count_near(model, (0, 1, 1), margin) for margin in (0, 1, 2, 3)], second_best(model, (0, 1, 1))
+([1, 1, 2, 5], (0, 0, 1))
+>>> [nth_near(model, (0, 1, 1), 3, index) for index in range(5)]
+[(0, 1, 1), (0, 0, 1), (0, 0, 0), (0, 1, 0), (1, 1, 1)]
+>>> index_of_near(model, (0, 1, 1), 3, (0, 1, 0)), index_of_near(model, (0, 1, 1), 2, (0, 1, 0)) is None
+(3, True)
+>>> met(model, (0, 1, 1), 2), agreed(model, (0, 1, 1), 2)
+(((0,), (0, 1), (1,)), (0, None, 1))
+>>> accepts_met(model, (0,), 0, 0, 1, ("not", (0,), ((0, 4),), ((0, 0),))), accepts_met(model, (0,), 4, 0, 1, ("met", (1,), ((0, 4),)))
+(True, True)
+>>> met_evidence(model, (0, 1, 1), 2, 0, 1)[0], accepts_met(model, (0,), 0, 0, 1, ("not", (0,), ((0, 5),), ((0, 0),)))
+('not', False)
+"""
+
+CHANGING = """
+>>> from surepast.changing import best_changed, best_with, changed_cost, overtakes, room, uses
+>>> model = ((0, 0), ((0, 1), (1, 0)), ((0, 1), (1, 0)))
+>>> best_with(model, (0, 0, 1), ("show", 0, 1), 1), best_with(model, (0, 0, 1), ("show", 0, 1), 0), best_with(model, (0, 0, 1), ("show", 0, 1), 2)
+(((0, 0, 0), 1), ((0, 0, 1), 1), None)
+>>> room(model, (0, 0, 1), ("show", 0, 1)), room(model, (0, 0, 1), ("change", 0, 1)), room(model, (0, 0, 1), ("begin", 0))
+((None, 0), (0, None), (None, 1))
+>>> best_changed(model, (0, 0, 1), ("begin", 0), 1), best_changed(model, (0, 0, 1), ("begin", 0), 2)
+(((0, 0, 0), 2), ((1, 1, 1), 2))
+>>> overtakes(model, (0, 0, 1), ("begin", 0), 2, (1, 1, 1)), overtakes(model, (0, 0, 1), ("begin", 0), 1, (1, 1, 1))
+(True, False)
+>>> uses(model, (0, 0, 1), ("change", 0, 0), (0, 0, 0)), changed_cost(model, (0, 0, 1), ("change", 0, 0), -3, (0, 0, 0))
+(2, -5)
+"""
+
+# The interface tells the last call of these in words.
+TEXTS = """
+>>> from surepast.reading import next_tokens, read_model, read_row, read_signs
+>>> from surepast.writing import model_text, row_text, signs_text
+>>> model = read_model("0 2 | 0 1, 1 0 | 0 2, 2 0")
+>>> model, read_signs(model, "0 1 1"), read_row(model, "")
+(((0, 2), ((0, 1), (1, 0)), ((0, 2), (2, 0))), (0, 1, 1), ())
+>>> model_text(((3,), ((0,),), ((1, 2, 3),))), signs_text(model, (1, 0)), row_text(model, ())
+('3 | 0 | 1 2 3', '1 0', '')
+>>> next_tokens("0 2", "model"), next_tokens("0 | 1", "model"), next_tokens("0 | 1 | 2", "model"), next_tokens("", "numbers")
+(['a number', '"|"'], ['a number', '"|"', '","'], ['a number', '","', 'the end'], ['a number', 'the end'])
+"""
+
+WATCHING = """
+>>> from surepast.journals import are_right, replayed
+>>> from surepast.watcher import Watcher
+>>> watcher = Watcher(((0, 1), ((0, 1), (1, 0)), ((0, 3), (3, 0))))
+>>> watcher.act(("see", 0)), watcher.best(), watcher.sure(), watcher.act(("see", 1)), watcher.best(), watcher.sure(), watcher.first_sights()
+(1, ((0,), 0), (0,), 2, ((0, 1), 1), (0, 1), (1, 2))
+>>> are_right(((0, 1), ((0, 1), (1, 0)), ((0, 3), (3, 0))), watcher.records()), watcher.records()[0]
+(True, (('see', 0), (0,), ((0, 0), (0, 1), (1, 0)), (0,)))
+>>> watcher.act(("back",)), watcher.signs(), watcher.undo(), watcher.signs(), replayed(((1,), ((0,),), ((2, 0),)), (("see", 1),)).best()
+(3, (0,), ('back',), (0, 1), ((0,), 1))
+"""
+
+
+README = pathlib.Path(__file__).resolve().parent.parent / "README.md"
+
 
 class Examples(unittest.TestCase):
     def run_text(self, text, many):
@@ -128,6 +196,25 @@ class Examples(unittest.TestCase):
 
     def test_counting(self):
         self.run_text(COUNTING, 4)
+
+    def test_near(self):
+        self.run_text(NEAR, 9)
+
+    def test_changing(self):
+        self.run_text(CHANGING, 7)
+
+    def test_texts(self):
+        self.run_text(TEXTS, 6)
+        with self.assertRaises(TextError) as caught:
+            read_model("0 2 | 0 1 | 0, 1")
+        self.assertEqual((caught.exception.column, caught.exception.words), (11, "a state is missing"))
+
+    def test_watching(self):
+        self.run_text(WATCHING, 6)
+
+    def test_the_readme(self):
+        blocks = README.read_text(encoding="ascii").split("```\n")[1::2]
+        self.run_text("\n".join(blocks), 34)
 
     def test_point_18(self):
         begin = (0, 2)
@@ -169,6 +256,34 @@ class Examples(unittest.TestCase):
     def test_point_82(self):
         left = {(0, 0): 0, (1, 1): 0, (0, 1): 1, (1, 0): 2}
         self.assertEqual({signs: index_open(TURNS, signs)[0] for signs in left}, left)
+
+    def test_point_92(self):
+        rows = [nth_near(TOLD, (0, 1, 1), 3, index) for index in range(5)]
+        self.assertEqual(rows, [(0, 1, 1), (0, 0, 1), (0, 0, 0), (0, 1, 0), (1, 1, 1)])
+        self.assertEqual([cost_of(TOLD, (0, 1, 1), row) for row in rows], [1, 3, 4, 4, 4])
+        self.assertEqual(count_near(TOLD, (0, 1, 1), 3), 5)
+
+    def test_point_102(self):
+        self.assertEqual(best_row(TURNS, (0, 0, 1)), ((0, 0, 0), 1))
+        self.assertEqual([cost_of(TURNS, (0, 0, 1), row) for row in ((0, 0, 1), (1, 1, 1))], [1, 2])
+        self.assertEqual(best_changed(TURNS, (0, 0, 1), ("show", 0, 1), 1)[0], (0, 0, 1))
+
+    def test_point_113(self):
+        self.assertEqual(read_model("0 2 | 0 1, 1 0 | 0 2, 2 0"), TOLD)
+        self.assertEqual(model_text(TOLD), "0 2 | 0 1, 1 0 | 0 2, 2 0")
+
+    def test_point_124(self):
+        watcher = Watcher(TURNS)
+        watcher.act(("see", 0))
+        self.assertEqual(watcher.sure(), (0,))
+        watcher.act(("back",))
+        watcher.act(("see", 1))
+        self.assertEqual(watcher.sure(), ())
+        watcher.act(("see", 0))
+        self.assertEqual(watcher.best()[0], (0, 0))
+        watcher.undo()
+        watcher.act(("see", 1))
+        self.assertEqual(watcher.best()[0], (1, 1))
 
 
 if __name__ == "__main__":

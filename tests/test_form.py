@@ -7,6 +7,9 @@ import inspect
 import pathlib
 import unittest
 
+from surepast import errors
+from surepast.watcher import Watcher
+
 PACKAGE = pathlib.Path(__file__).resolve().parent.parent / "surepast"
 
 INTERFACE = {
@@ -74,6 +77,54 @@ INTERFACE = {
         "index_open": ["model", "signs"],
         "worst_signs": ["model", "length"],
     },
+    "near": {
+        "count_near": ["model", "signs", "margin"],
+        "nth_near": ["model", "signs", "margin", "index"],
+        "index_of_near": ["model", "signs", "margin", "row"],
+        "second_best": ["model", "signs"],
+    },
+    "met": {
+        "met": ["model", "signs", "margin"],
+        "agreed": ["model", "signs", "margin"],
+        "met_evidence": ["model", "signs", "margin", "time", "state"],
+        "accepts_met": ["model", "signs", "margin", "time", "state", "value"],
+    },
+    "changing": {
+        "is_place": ["value", "model"],
+        "uses": ["model", "signs", "place", "row"],
+        "changed_cost": ["model", "signs", "place", "by", "row"],
+        "best_with": ["model", "signs", "place", "many"],
+        "best_changed": ["model", "signs", "place", "by"],
+        "room": ["model", "signs", "place"],
+        "overtakes": ["model", "signs", "place", "by", "value"],
+    },
+    "scanning": {
+        "scan": ["text"],
+    },
+    "reading": {
+        "next_tokens": ["text", "kind"],
+        "read_model": ["text"],
+        "read_signs": ["model", "text"],
+        "read_row": ["model", "text"],
+    },
+    "writing": {
+        "model_text": ["model"],
+        "signs_text": ["model", "signs"],
+        "row_text": ["model", "row"],
+    },
+    "watcher": {
+        "Watcher": ["model"],
+    },
+    "journals": {
+        "replayed": ["model", "journal"],
+        "are_right": ["model", "records"],
+    },
+}
+CLASSES = {"PastError", "BadValue", "TooLarge", "NotPossible", "TextError", "Watcher"}
+# The methods of Watcher.
+METHODS = {
+    "act": ["command"], "undo": [], "signs": [], "journal": [], "best": [], "sure": [], "first_sights": [], "records": [],
+    "twin": [],
 }
 ALLOWED_SOURCES = {"surepast", "heapq", "math", "itertools", "collections"}
 ALLOWED_BUILTINS = set("""
@@ -96,10 +147,38 @@ class Interface(unittest.TestCase):
             module = importlib.import_module(f"surepast.{file}")
             for name, parameters in listed.items():
                 its = getattr(module, name)
-                self.assertTrue(inspect.isclass(its) if file == "errors" else inspect.isfunction(its))
+                self.assertTrue(inspect.isclass(its) if name in CLASSES else inspect.isfunction(its))
                 self.assertEqual(its.__module__, f"surepast.{file}")
                 if parameters is not None:
                     self.assertEqual(list(inspect.signature(its).parameters), parameters)
+
+    def test_methods(self):
+        # Each is defined in the class itself.
+        for name, parameters in METHODS.items():
+            its = vars(Watcher)[name]
+            self.assertTrue(inspect.isfunction(its))
+            self.assertEqual(list(inspect.signature(its).parameters), ["self"] + parameters)
+
+    def test_all_are_defined_in_their_files(self):
+        for file, listed in INTERFACE.items():
+            tree = ast.parse((PACKAGE / f"{file}.py").read_text(encoding="ascii"))
+            defined = [node.name for node in tree.body if isinstance(node, (ast.FunctionDef, ast.ClassDef))]
+            self.assertTrue(set(listed) <= set(defined), file)
+
+    def test_no_class_of_errors_is_below_another_one(self):
+        below = [errors.BadValue, errors.TooLarge, errors.NotPossible, errors.TextError]
+        for error in below:
+            self.assertEqual(error.__bases__, (errors.PastError,))
+        self.assertEqual(errors.PastError.__bases__, (ValueError,))
+
+    def test_no_other_errors_are_defined_or_raised(self):
+        for path, tree in trees():
+            for node in ast.walk(tree):
+                if isinstance(node, ast.ClassDef) and path.name != "errors.py":
+                    self.assertEqual(node.bases, [], (path, node.lineno))
+                if isinstance(node, ast.Raise):
+                    self.assertIn(node.exc.func.id, CLASSES - {"PastError", "Watcher"}, (path, node.lineno))
+                self.assertNotIsInstance(node, (ast.Try, ast.Assert), path)
 
 
 class Form(unittest.TestCase):
