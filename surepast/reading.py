@@ -72,11 +72,13 @@ def place_problem(parts):
     many = len(rows[-1])
     if len(parts) == 1:
         return "there are at most 3 states" if many == MOST_STATES else None
-    if len(rows) > states or (len(parts) == 2 and many == states):
+    if len(rows) > states:
         return NO_STATE
-    if len(parts) == 3 and len(rows) == 1 and many == MOST_KINDS:
-        return "there are at most 3 signs"
-    return NO_SIGN if len(parts) == 3 and len(rows) > 1 and many == len(rows[0]) else None
+    if len(parts) == 2:
+        return NO_STATE if many == states else None
+    if len(rows) == 1:
+        return "there are at most 3 signs" if many == MOST_KINDS else None
+    return NO_SIGN if many == len(rows[0]) else None
 
 
 def number_problem(parts, cost):
@@ -91,12 +93,14 @@ def closing_problem(parts, ends_part):
     """Return the words for the problem of closing the open row, and its part too if this ends here, or None."""
     states = len(parts[0][0])
     rows = parts[-1]
+    # The begin costs are one row, however many states there are.
+    if len(parts) == 1:
+        return None
     if len(parts) == 2 and len(rows[-1]) < states:
         return STATE_MISSING
     if len(parts) == 3 and len(rows[-1]) < len(rows[0]):
         return SIGN_MISSING
-    # The begin costs are one row, however many states there are.
-    return STATE_MISSING if ends_part and len(parts) > 1 and len(rows) < states else None
+    return STATE_MISSING if ends_part and len(rows) < states else None
 
 
 def problem_of(parts, token):

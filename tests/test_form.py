@@ -227,6 +227,26 @@ class Form(unittest.TestCase):
                     names.append(node.id)
                 self.assertFalse(barred & set(names), (path, getattr(node, "lineno", None)))
 
+    def test_no_import_and_no_class_is_given_another_meaning(self):
+        for path, tree in trees():
+            known = {node.name for node in tree.body if isinstance(node, ast.ClassDef)}
+            for node in tree.body:
+                if isinstance(node, ast.ImportFrom):
+                    known |= {alias.name for alias in node.names}
+            for node in ast.walk(tree):
+                if isinstance(node, ast.arg):
+                    self.assertNotIn(node.arg, known, (path, node.lineno))
+                if isinstance(node, ast.Name) and isinstance(node.ctx, ast.Store):
+                    self.assertNotIn(node.id, known, (path, node.lineno))
+
+    def test_no_name_is_a_method_and_an_attribute_of_a_class(self):
+        for path, tree in trees():
+            for its in [node for node in tree.body if isinstance(node, ast.ClassDef)]:
+                methods = {node.name for node in its.body if isinstance(node, ast.FunctionDef)}
+                for node in ast.walk(its):
+                    if isinstance(node, ast.Attribute) and isinstance(node.ctx, ast.Store):
+                        self.assertNotIn(node.attr, methods, (path, node.lineno))
+
     def test_a_range_is_not_stored_in_an_object(self):
         for path, tree in trees():
             for node in ast.walk(tree):
