@@ -62,64 +62,65 @@ def right_tokens(text, kind):
     return tokens
 
 
-# What was read of a model is a list of its parts, each a list of rows of costs. The last row is still open.
+class Reader:
+    """Reads a model, token by token.
 
+    What was read is a list of its parts, each a list of rows of costs. The last row is still open.
+    """
 
-def place_problem(parts):
-    """Return the words for why there is no place for one more cost behind what was read, or None."""
-    states = len(parts[0][0])
-    rows = parts[-1]
-    many = len(rows[-1])
-    if len(parts) == 1:
-        return "there are at most 3 states" if many == MOST_STATES else None
-    if len(rows) > states:
-        return NO_STATE
-    if len(parts) == 2:
-        return NO_STATE if many == states else None
-    if len(rows) == 1:
-        return "there are at most 3 signs" if many == MOST_KINDS else None
-    return NO_SIGN if many == len(rows[0]) else None
+    def __init__(self):
+        self.parts = [[[]]]
 
+    def place_problem(self):
+        """Return the words for why there is no place for one more cost, or None."""
+        states = len(self.parts[0][0])
+        rows = self.parts[-1]
+        many = len(rows[-1])
+        if len(self.parts) == 1:
+            return "there are at most 3 states" if many == MOST_STATES else None
+        if len(rows) > states:
+            return NO_STATE
+        if len(self.parts) == 2:
+            return NO_STATE if many == states else None
+        if len(rows) == 1:
+            return "there are at most 3 signs" if many == MOST_KINDS else None
+        return NO_SIGN if many == len(rows[0]) else None
 
-def number_problem(parts, cost):
-    """Return the words for the problem of this number behind what was read, or None."""
-    words = place_problem(parts)
-    if words is None and cost > MOST_COST:
-        return "a cost is from 0 to 3"
-    return words
+    def closing_problem(self, ends_part):
+        """Return the words for why the open row cannot be closed, and its part too if this ends here, or None."""
+        states = len(self.parts[0][0])
+        rows = self.parts[-1]
+        # The begin costs are one row, however many states there are.
+        if len(self.parts) == 1:
+            return None
+        if len(self.parts) == 2 and len(rows[-1]) < states:
+            return STATE_MISSING
+        if len(self.parts) == 3 and len(rows[-1]) < len(rows[0]):
+            return SIGN_MISSING
+        return STATE_MISSING if ends_part and len(rows) < states else None
 
+    def problem(self, kind, characters):
+        """Return the words for the problem of the next token, or None."""
+        if kind != "number":
+            return self.closing_problem(characters != ",")
+        words = self.place_problem()
+        if words is None and int(characters) > MOST_COST:
+            return "a cost is from 0 to 3"
+        return words
 
-def closing_problem(parts, ends_part):
-    """Return the words for the problem of closing the open row, and its part too if this ends here, or None."""
-    states = len(parts[0][0])
-    rows = parts[-1]
-    # The begin costs are one row, however many states there are.
-    if len(parts) == 1:
-        return None
-    if len(parts) == 2 and len(rows[-1]) < states:
-        return STATE_MISSING
-    if len(parts) == 3 and len(rows[-1]) < len(rows[0]):
-        return SIGN_MISSING
-    return STATE_MISSING if ends_part and len(rows) < states else None
+    def read(self, kind, characters):
+        """Read the next token, which has no problem."""
+        if kind == "number":
+            self.parts[-1][-1].append(int(characters))
+        elif characters == ",":
+            self.parts[-1].append([])
+        elif characters == "|":
+            self.parts.append([[]])
 
-
-def problem_of(parts, token):
-    """Return the words for the problem of the token behind what was read, or None."""
-    kind, characters = token[:2]
-    if kind == "number":
-        return number_problem(parts, int(characters))
-    return closing_problem(parts, characters != ",")
-
-
-def read_token(parts, token):
-    """Add the token, which has no problem, to what was read."""
-    kind, characters = token[:2]
-    if kind == "number":
-        parts[-1][-1].append(int(characters))
-    elif characters == ",":
-        parts[-1].append([])
-    elif characters == "|":
-        parts.append([[]])
+    def whole(self):
+        """Return the model, of which all was read."""
+        begin, change, show = self.parts
+        return (tuple(begin[0]), tuple([tuple(costs) for costs in change]), tuple([tuple(costs) for costs in show]))
 
 
 def numbers_of(tokens, bound, too_many, too_great):
@@ -146,14 +147,13 @@ def next_tokens(text, kind):
 
 def read_model(text):
     """Return the model that the text tells."""
-    parts = [[[]]]
-    for token in right_tokens(text, "model"):
-        words = problem_of(parts, token)
+    reader = Reader()
+    for kind, characters, column in right_tokens(text, "model"):
+        words = reader.problem(kind, characters)
         if words is not None:
-            raise TextError(token[2], words)
-        read_token(parts, token)
-    begin, change, show = parts
-    return (tuple(begin[0]), tuple([tuple(costs) for costs in change]), tuple([tuple(costs) for costs in show]))
+            raise TextError(column, words)
+        reader.read(kind, characters)
+    return reader.whole()
 
 
 def read_signs(model, text):

@@ -11,7 +11,7 @@ from tests.samples import (
     ALONE, DEAR, FREE, LATER, MODELS, STRANGE, THREE, TOLD, TURNS, all_rows, all_signs, long_signs, plain_cost,
 )
 
-STEPS = (1, -1, -2, 7, -40, -1000, 1000, 10 ** 30, -(10 ** 30))
+STEPS = (1, -1, -2, -40, 1000, 10 ** 30, -(10 ** 30))
 
 
 def are_ahead(model, signs, ahead):

@@ -99,7 +99,7 @@ class Indexes(unittest.TestCase):
     def test_all_of_them(self):
         for model in MODELS:
             for signs in short_signs(model):
-                for margin in (0, 1, 3, 8, 30):
+                for margin in (0, 3, 30):
                     rows = near_rows(model, signs, margin)
                     self.assertEqual([nth_near(model, signs, margin, index) for index in range(len(rows))], rows)
                     self.assertEqual([index_of_near(model, signs, margin, row) for row in rows], list(range(len(rows))))
@@ -176,7 +176,7 @@ class TwentySigns(unittest.TestCase):
             for margin in (0, 2, 6):
                 for index in self.picked(source, count_near(model, signs, margin)):
                     row = nth_near(model, signs, margin, index)
-                    for greater in (margin + 1, margin + 4, 30):
+                    for greater in (margin + 1, 30):
                         self.assertEqual(nth_near(model, signs, greater, index), row)
                         self.assertEqual(index_of_near(model, signs, greater, row), index)
 
